@@ -1,0 +1,1 @@
+"""Eitherbarter: barters that can be done both ways."""

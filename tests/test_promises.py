@@ -1,0 +1,138 @@
+"""[0.1] to [0.3]: what holds of every function and class."""
+
+import copy
+import unittest
+
+from eitherbarter.books import (
+    Book, book_pieces, joined_books, part_book, turned_book, with_barter, without_barter,
+)
+from eitherbarter.booktexts import book_text, read_book
+from eitherbarter.errors import BarterError, NameMissing
+from eitherbarter.lexemes import lexemes
+from eitherbarter.words import is_integer, is_number, is_word
+from tests.helpers import anything, coins
+
+
+def frozen(value):
+    """A value with which others can be compared, objects of the package told apart by what they tell."""
+    if isinstance(value, Book):
+        return ("Book", value.goods(), value.barters())
+    if isinstance(value, (BarterError, NameMissing)):
+        return (type(value).__name__, frozen(vars(value)))
+    if isinstance(value, (list, tuple)):
+        return (type(value).__name__, [frozen(member) for member in value])
+    if isinstance(value, dict):
+        return ("dict", [(frozen(key), frozen(member)) for key, member in value.items()])
+    return (type(value).__name__, value)
+
+
+def outcome(function, arguments):
+    """What a call returns or raises, to be compared."""
+    try:
+        return ("returned", frozen(function(*arguments)))
+    except (BarterError, NameMissing) as error:
+        return ("raised", frozen(error))
+
+
+def inner_lists(value):
+    """All lists and dicts within a value."""
+    found = []
+    if isinstance(value, (list, dict)):
+        found.append(value)
+    if isinstance(value, (list, tuple, dict)):
+        for member in value.values() if isinstance(value, dict) else value:
+            found.extend(inner_lists(member))
+    return found
+
+
+def book_calls():
+    """Calls of stage 1: functions and lists of their arguments, right ones and wrong ones."""
+    book = coins()
+    other = Book(["tea", "cup"], [("pour", (-1, 2)), ("drink", (1, -2))])
+    text = book_text(book)
+    calls = [
+        (Book, [["a", "b"], [("p", (-1, 1))]]), (Book, [["a", "b"], [("p", [-1, 1])]]), (Book, [["a", "a"], []]),
+        (Book, [["a"], [["p", (-1,)]]]), (Book, [[], []]),
+        (turned_book, [book, ["pack", "change"]]), (turned_book, [book, ["pack", "coin"]]),
+        (part_book, [book, ["bag", "note"]]), (part_book, [book, ["bag", "pack"]]),
+        (with_barter, [book, "more", (1, -1, 0)]), (with_barter, [book, "pack", (1, -1, 0)]),
+        (without_barter, [book, "pack"]), (without_barter, [book, "bag"]),
+        (book_pieces, [book]), (joined_books, [book, other]), (joined_books, [book, book]),
+        (lexemes, [text]), (lexemes, ["a ["]), (book_text, [book]), (read_book, [text]), (read_book, ["book ["]),
+        (read_book, ["book (a, a) {}"]),
+        (lambda b: b.goods(), [book]), (lambda b: b.barters(), [book]), (lambda b: b.names(), [book]),
+    ]
+    for method in ("row", "takes", "gives", "barter_number", "good_number"):
+        for name in ("pack", "coin"):
+            calls.append((lambda b, n, m=method: getattr(b, m)(n), [book, name]))
+    for value in anything():
+        calls.extend([
+            (is_word, [value]), (is_integer, [value]), (is_number, [value]), (Book, [value, value]),
+            (Book, [[value], []]), (Book, [["a", "b"], value]), (Book, [["a", "b"], [value, value]]),
+            (Book, [["a", "b"], [("p", value)]]), (turned_book, [book, [value]]), (part_book, [book, [value]]),
+            (with_barter, [book, value, value]), (without_barter, [book, value]),
+            (lambda a, b: a == b, [book, value]),
+        ])
+    return calls
+
+
+class AllFunctions(unittest.TestCase):
+    calls = staticmethod(book_calls)
+
+    def test_arguments_are_not_modified(self):
+        for function, arguments in self.calls():
+            before = frozen(arguments)
+            outcome(function, arguments)
+            self.assertEqual(frozen(arguments), before, function)
+
+    def test_repeated_calls_return_or_raise_the_same(self):
+        for (function, arguments), (_, anew) in zip(self.calls(), self.calls()):
+            first = outcome(function, arguments)
+            self.assertEqual(outcome(function, arguments), first, (function, arguments))
+            self.assertEqual(outcome(function, anew), first, (function, arguments))
+
+    def test_returned_lists_and_dicts_are_new(self):
+        for function, arguments in self.calls():
+            try:
+                values = [function(*arguments) for _ in range(2)]
+            except (BarterError, NameMissing):
+                continue
+            found = [one for value in values for one in inner_lists(value)]
+            self.assertEqual(len({id(one) for one in found}), len(found), (function, arguments))
+            passed = {id(one) for one in inner_lists(arguments)}
+            self.assertFalse([one for one in found if id(one) in passed], (function, arguments))
+
+    def test_returned_values_are_plain(self):
+        def check(value):
+            if not isinstance(value, Book):
+                self.assertIn(type(value), (bool, int, str, list, tuple, type(None)))
+            if isinstance(value, (list, tuple)):
+                for member in value:
+                    check(member)
+
+        for function, arguments in self.calls():
+            try:
+                check(function(*arguments))
+            except (BarterError, NameMissing):
+                continue
+
+    def test_nothing_that_was_passed_is_kept(self):
+        for function, arguments in self.calls():
+            arguments = [copy.deepcopy(one) if isinstance(one, list) else one for one in arguments]
+            try:
+                value = function(*arguments)
+            except (BarterError, NameMissing):
+                continue
+            before = frozen(value)
+            for one in inner_lists([one for one in arguments if isinstance(one, list)]):
+                one.clear()
+            self.assertEqual(frozen(value), before, function)
+
+    def test_a_tuple_may_be_passed_for_a_list(self):
+        self.assertEqual(Book(("a", "b"), (("p", (-1, 1)),)), Book(["a", "b"], [("p", (-1, 1))]))
+        for function, names in ((turned_book, ["pack", "change"]), (part_book, ["bag", "note"])):
+            self.assertEqual(function(coins(), tuple(names)), function(coins(), names))
+
+
+if __name__ == "__main__":
+    unittest.main()
