@@ -58,3 +58,39 @@ def pieces_within(goods, sides):
         pieces.append(piece)
         goods = goods - piece
     return pieces
+
+
+def tree_within(words, goods, sides):
+    """A tree of some goods and the barters with these sides, or None if there is none; () without goods.
+
+    The pieces, of which each has a tree by itself, are put together by forks without a barter.
+    """
+    tree = ()
+    for piece in pieces_within(goods, sides):
+        part = piece_tree(words, piece, sides_within(piece, sides))
+        if part is None:
+            return None
+        tree = part if tree == () else (tree, part, None)
+    return tree
+
+
+def piece_tree(words, piece, sides):
+    """A tree of one piece, or None if there is none.
+
+    Any barter at which the piece splits may be at its first fork: if the book is good, so are both sides.
+    """
+    if not sides:
+        return words[piece.bit_length() - 1]
+    for k, (name, given, taken) in enumerate(sides):
+        others = sides[:k] + sides[k + 1:]
+        one = hung_with(given, others)
+        if not one & taken:
+            left = tree_within(words, one, sides_within(one, others))
+            right = tree_within(words, piece - one, sides_within(piece - one, others))
+            return None if left is None or right is None else (left, right, name)
+    return None
+
+
+def has_tree(words, goods, sides):
+    """Tells whether there is a tree of some goods and the barters with these sides."""
+    return tree_within(words, goods, sides) is not None

@@ -119,7 +119,8 @@ class Texts(unittest.TestCase):
             ("book a", 5), ("book {", 5), ("book (", 6), ("book (a", 7), ("book (a b", 8), ("book (a,)", 8),
             ("book (,", 6), ("book (7", 6), ("book (a;", 7), ("book ()", 7), ("book () ;", 8), ("book () (", 8),
             ("book () {", 9), ("book () {} ", None), ("book () {} }", 11), ("book () {};", 10), ("book () {} a", 11),
-            ("book () {} [", 11), ("book () { a", 11), ("book () { 7", 10), ("book () { ;", 10), ("book () { to to", 13),
+            ("book () {} [", 11), ("book () { a", 11), ("book () { 7", 10), ("book () { ;", 10),
+            ("book () { to to", 13),
             ("book () { a (", 13), ("book () { a ()", 13), ("book () { a (b", 13), ("book () { a (1", 14),
             ("book () { a (1 1", 15), ("book () { a (01", 14), ("book () { a (1 b", 16), ("book () { a (1 b,)", 17),
             ("book () { a (1 b c", 17), ("book () { a (1 b,, ", 17), ("book () { a (1 b) {", 18),
@@ -159,7 +160,7 @@ class Texts(unittest.TestCase):
 
     def test_drawn_wrong_texts(self):
         rng = random.Random(17)
-        signs = ["(", ")", "{", "}", ",", ";", "to", "book", "a", "coin", "0", "17", " ", "\n", "[", "B", "\t", "a" * 13]
+        signs = [*"(){},; \n[B\t", "to", "book", "a", "coin", "0", "17", "a" * 13]
         for _ in range(3000):
             text = TEXT
             for _ in range(rng.randint(1, 2)):

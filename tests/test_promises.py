@@ -7,10 +7,15 @@ from eitherbarter.books import (
     Book, book_pieces, joined_books, part_book, turned_book, with_barter, without_barter,
 )
 from eitherbarter.booktexts import book_text, read_book
-from eitherbarter.errors import BarterError, NameMissing
+from eitherbarter.chains import chain_between, judge_chain, judge_round, linking, links_of, round_of
+from eitherbarter.errors import BadBook, BadTree, BarterError, NameMissing
+from eitherbarter.fractions import added, is_fraction, lowest, row_sum, times
 from eitherbarter.lexemes import lexemes
+from eitherbarter.solving import idle_stairs, is_balance, rest, stairs
+from eitherbarter.squares import all_squares, is_good_book, judge_square, square_of
+from eitherbarter.trees import forks, judge_tree, leaves, tree_of
 from eitherbarter.words import is_integer, is_number, is_word
-from tests.helpers import anything, coins
+from tests.helpers import anything, coins, dependent, drawn_books, letters, ring
 
 
 def frozen(value):
@@ -76,8 +81,36 @@ def book_calls():
     return calls
 
 
+def tree_calls():
+    """Calls of stage 2 and of stairs, likewise."""
+    calls = [
+        (lowest, [6, -4]), (added, [(1, 2), (1, 3)]), (times, [(1, 2), (2, 3)]), (row_sum, [[1, 2], [(1, 2), (1, 3)]]),
+        (row_sum, [(1, 2), ((1, 2), (1, 3))]),
+    ]
+    for book in [letters(), ring(3), dependent(), Book([], []), *drawn_books(45, 12, 5, 5)]:
+        for function in (links_of, round_of, square_of, is_good_book, all_squares, tree_of, stairs, idle_stairs):
+            calls.append((function, [book]))
+        row = tuple(range(-1, len(book.goods()) - 1))
+        calls.extend([(rest, [book, row]), (is_balance, [book, row])])
+        for one in book.goods():
+            for other in book.goods():
+                calls.extend([(linking, [book, one, other]), (chain_between, [book, one, other])])
+    tree = ((("a", "b", "p"), ("c", "e", "r"), None), "d", "q")
+    for function in (leaves, forks):
+        calls.append((function, [tree]))
+    for value in [*anything(), tree, ("a", "p", "b"), (("n0", "n1", "n2"), ("g0", "g1", "g2"))]:
+        calls.extend([(leaves, [value]), (forks, [value]), (is_fraction, [value])])
+        for book in (letters(), ring(3)):
+            for function in (judge_chain, judge_round, judge_square, judge_tree):
+                calls.append((function, [book, value]))
+            calls.extend([(linking, [book, value, "b"]), (chain_between, [book, "g1", value])])
+    return calls
+
+
 class AllFunctions(unittest.TestCase):
-    calls = staticmethod(book_calls)
+    @staticmethod
+    def calls():
+        return book_calls() + tree_calls()
 
     def test_arguments_are_not_modified(self):
         for function, arguments in self.calls():
@@ -132,6 +165,43 @@ class AllFunctions(unittest.TestCase):
         self.assertEqual(Book(("a", "b"), (("p", (-1, 1)),)), Book(["a", "b"], [("p", (-1, 1))]))
         for function, names in ((turned_book, ["pack", "change"]), (part_book, ["bag", "note"])):
             self.assertEqual(function(coins(), tuple(names)), function(coins(), names))
+
+    def test_a_list_is_not_taken_for_a_tuple(self):
+        for goods, barters in (
+            (["a", "b"], [["p", (-1, 1)]]), (["a", "b"], [("p", [-1, 1])]), ([["a"], "b"], []), ([("a",), "b"], []),
+        ):
+            with self.assertRaises(BadBook):
+                Book(goods, barters)
+        self.assertIs(judge_chain(letters(), ["a", "p", "b"]), False)
+        self.assertIs(judge_round(ring(2), ["g0", "n0", "g1", "n1"]), False)
+        self.assertIs(judge_square(ring(2), [("n0", "n1"), ("g0", "g1")]), False)
+        self.assertIs(judge_square(ring(2), (["n0", "n1"], ["g0", "g1"])), False)
+        self.assertIs(judge_tree(Book(["a", "b"], []), ["a", "b", None]), False)
+        self.assertIs(is_fraction([1, 2]), False)
+        for function in (leaves, forks):
+            for value, path in ((["a", "b", None], ()), ((["a", "b", None], "c", None), (0,)), ([], ())):
+                with self.assertRaises(BadTree) as caught:
+                    function(value)
+                self.assertEqual(caught.exception.path, path)
+
+    def test_true_and_false_are_no_numbers(self):
+        for value in (True, False):
+            self.assertIs(is_integer(value), False)
+            self.assertIs(is_number(value), False)
+            self.assertIs(is_fraction((value, 1)), False)
+            self.assertIs(is_fraction((2, value)), False)
+            with self.assertRaises(BadBook) as caught:
+                Book(["a", "b", "c"], [("p", (-1, 1, value))])
+            self.assertEqual(caught.exception.path, (1, 0, 1, 2))
+
+    def test_truth_is_told_as_true_or_false(self):
+        book = letters()
+        for value in (
+            is_word("a"), is_integer(0), is_number(0), is_good_book(book), is_balance(book, (0,) * 5),
+            judge_tree(book, tree_of(book)), judge_chain(book, ("a",)), judge_square(ring(2), square_of(ring(2))),
+            judge_round(ring(2), round_of(ring(2))), is_fraction((0, 1)), book == letters(),
+        ):
+            self.assertIs(value, True)
 
 
 if __name__ == "__main__":

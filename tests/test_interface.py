@@ -1,0 +1,46 @@
+"""The interface: each name is defined in the file under which it is listed."""
+
+import importlib
+import inspect
+import unittest
+
+LISTED = {
+    "words": {"is_word": 1, "is_integer": 1, "is_number": 1},
+    "books": {
+        "Book": 2, "turned_book": 2, "part_book": 2, "with_barter": 3, "without_barter": 2, "book_pieces": 1,
+        "joined_books": 2,
+    },
+    "lexemes": {"lexemes": 1},
+    "booktexts": {"book_text": 1, "read_book": 1},
+    "chains": {
+        "links_of": 1, "linking": 3, "chain_between": 3, "judge_chain": 2, "round_of": 1, "judge_round": 2,
+    },
+    "squares": {"square_of": 1, "judge_square": 2, "is_good_book": 1, "all_squares": 1},
+    "trees": {"tree_of": 1, "judge_tree": 2, "leaves": 1, "forks": 1},
+    "fractions": {"lowest": 2, "added": 2, "times": 2, "is_fraction": 1, "row_sum": 2},
+    "solving": {"stairs": 1, "idle_stairs": 1, "rest": 2, "is_balance": 2},
+}
+BOOK_METHODS = {
+    "goods": 0, "barters": 0, "names": 0, "row": 1, "takes": 1, "gives": 1, "good_number": 1, "barter_number": 1,
+    "__eq__": 1,
+}
+
+
+class Interface(unittest.TestCase):
+    def test_each_name_is_defined_in_its_file(self):
+        for file, names in LISTED.items():
+            module = importlib.import_module(f"eitherbarter.{file}")
+            for name, many in names.items():
+                found = getattr(module, name)
+                self.assertEqual((found.__module__, found.__name__), (module.__name__, name))
+                self.assertEqual(len(inspect.signature(found).parameters), many, name)
+
+    def test_the_methods_of_a_book_are_its_own(self):
+        book = importlib.import_module("eitherbarter.books").Book
+        for name, many in BOOK_METHODS.items():
+            self.assertIn(name, vars(book))
+            self.assertEqual(len(inspect.signature(vars(book)[name]).parameters), many + 1, name)
+
+
+if __name__ == "__main__":
+    unittest.main()
