@@ -8,12 +8,7 @@ def stairs(book):
 
 def idle_stairs(book):
     """The list of the idle stairs of the book, in order."""
-    many = len(book.goods())
-    barters = book.barters()
-    # Behind its balance each row tells its account. The stairs whose heads stand there have a balance of
-    # noughts, and all such rows are sums of them.
-    rows = [barter[1] + unit(len(barters), k) for k, barter in enumerate(barters)]
-    return [row[many:] for row in stairs_of(rows) if head_place(row) >= many]
+    return idle_stairs_of([barter[1] for barter in book.barters()], len(book.goods()))
 
 
 def rest(book, row):
@@ -47,6 +42,18 @@ def times_row(a, row):
 def combined(a, row, b, other):
     """The row multiplied by a, and the other one by b, added up."""
     return tuple([a * number + b * more for number, more in zip(row, other)])
+
+
+def told_stairs(rows):
+    """The stairs of all sums of the rows, each of which tells behind its end how often each row is in the sum."""
+    return stairs_of([row + unit(len(rows), k) for k, row in enumerate(rows)])
+
+
+def idle_stairs_of(rows, many):
+    """The stairs of all tuples by whose numbers the rows, of so many numbers each, add up to noughts."""
+    # The stairs whose heads stand behind the end of the rows have a sum of noughts, and all such sums are
+    # made of these.
+    return [row[many:] for row in told_stairs(rows) if head_place(row) >= many]
 
 
 def stairs_of(rows):

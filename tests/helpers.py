@@ -1,10 +1,13 @@
 """Books and values for the tests, and plain searches against which answers are held."""
 
 import itertools
+import math
 import random
+import time
+from fractions import Fraction
 
 from eitherbarter.books import Book
-from eitherbarter.errors import BadBook, UnknownName
+from eitherbarter.errors import BadBook, BarterError, NameMissing, UnknownName
 
 
 def coins():
@@ -28,6 +31,21 @@ def three():
 def dependent():
     """The book of S3.6."""
     return Book(["x", "y"], [("r", (-4, 6)), ("s", (-6, 9)), ("t", (10, -15))])
+
+
+def pair():
+    """The book of S4.8."""
+    return Book(["a", "b", "c"], [("p", (-2, 1, 0)), ("q", (0, -3, 2))])
+
+
+def money():
+    """The book of S5.6 and S6.6."""
+    return Book(["cent", "nickel", "dime"], [("split", (0, 2, -1)), ("change", (5, -1, 0))])
+
+
+def there_and_back():
+    """The book of the example in S5.8."""
+    return Book(["a", "b"], [("p", (-1, 1)), ("q", (1, -1))])
 
 
 def ring(many):
@@ -271,3 +289,196 @@ def rank_and_divisor(rows):
             rank, divisor = rank + 1, divisor * abs(head)
             rows = [[n for j, n in enumerate(row) if j != place] for k, row in enumerate(rows) if k != at]
     return rank, divisor
+
+
+def plain_sum(row, fractions):
+    """The sum of the numbers of a row, each multiplied by the fraction, a pair, at its place."""
+    return sum((number * Fraction(*pair) for number, pair in zip(row, fractions)), Fraction(0))
+
+
+def plus(one, other, many=1):
+    """A row and another one, multiplied by a number, added up."""
+    return tuple(a + many * b for a, b in zip(one, other))
+
+
+def plain_step(book, stock, deed):
+    """The stock behind what is a pair of a name and 1 or -1, or None if it cannot be done."""
+    name, way = deed
+    behind = plus(stock, dict(book.barters())[name], way)
+    return None if any(number < 0 for number in behind) else behind
+
+
+def plain_deeds(book):
+    """All pairs of a name and 1 or -1, in order."""
+    return [(name, way) for name in book.names() for way in (1, -1)]
+
+
+def plain_walk(book, stock, script):
+    """The list of the stocks that the deeds come through, up to the first that cannot be done."""
+    stocks = [stock]
+    for deed in script:
+        behind = plain_step(book, stocks[-1], deed)
+        if behind is None:
+            return stocks
+        stocks.append(behind)
+    return stocks
+
+
+def plain_met(book, stock, most=10 ** 9, bound=10 ** 9):
+    """A dict of the least number of deeds to each stock within so many deeds; None if there are more than bound."""
+    met = {stock: 0}
+    queue = [stock]
+    for one in queue:
+        for deed in plain_deeds(book):
+            behind = plain_step(book, one, deed) if met[one] < most else None
+            if behind is not None and behind not in met:
+                met[behind] = met[one] + 1
+                queue.append(behind)
+        if len(met) > bound:
+            return None
+    return met
+
+
+def plain_cheapest(book, stock, prices):
+    """A dict of the least price of a script to each stock of a lot, made less until nothing changes."""
+    price_of = dict(zip(book.names(), prices))
+    met = {stock: 0}
+    changed = True
+    while changed:
+        changed = False
+        for one in list(met):
+            for deed in plain_deeds(book):
+                behind = plain_step(book, one, deed)
+                if behind is not None and met.get(behind, 10 ** 30) > met[one] + price_of[deed[0]]:
+                    met[behind] = met[one] + price_of[deed[0]]
+                    changed = True
+    return met
+
+
+def asked_deeds(book, account):
+    """The list of the deeds of an account, each as often as it asks for it."""
+    deeds = []
+    for name, number in zip(book.names(), account):
+        deeds.extend([(name, 1 if number > 0 else -1)] * abs(number))
+    return deeds
+
+
+def least_stock(book, account):
+    """The least stock from which the account leads to a stock."""
+    return tuple(max(0, -number) for number in plain_balance(book, account))
+
+
+def drawn_account(rng, book, most, share=0.8):
+    """An account of at most so many deeds, at each barter not 0 with a certain share."""
+    account = [0] * len(book.names())
+    for _ in range(most):
+        if account:
+            k = rng.randrange(len(account))
+            account[k] += (1 if account[k] > 0 else -1) if account[k] else rng.choice([-1, 1])
+    return tuple(number if rng.random() < share else 0 for number in account)
+
+
+def drawn_carry(rng, goods, deeds, most=9, more=0, share=0.9):
+    """A drawn good book, an account of at most so many deeds, and two stocks between which it leads, small ones."""
+    book, _ = drawn_good_book(rng, goods, share, most)
+    account = drawn_account(rng, book, deeds)
+    f = tuple(number + rng.randint(0, more) for number in least_stock(book, account))
+    return book, f, account, plus(f, plain_balance(book, account))
+
+
+def plain_moments(book, f, account):
+    """The dict of all moments, ascending, with the stocks at them."""
+    found = {}
+    for numbers in itertools.product(*(range(abs(number) + 1) for number in account)):
+        signed = [number if whole > 0 else -number for number, whole in zip(numbers, account)]
+        stock = plus(f, plain_balance(book, signed))
+        if all(number >= 0 for number in stock):
+            found[numbers] = stock
+    return found
+
+
+def plain_orders(book, f, account):
+    """The list of all doable orders of an account, told by trying each barter in turn at each place."""
+    orders = []
+
+    def go_on(stock, left, order):
+        if not any(left):
+            orders.append(tuple(order))
+        for k, name in enumerate(book.names()):
+            if left[k]:
+                way = 1 if left[k] > 0 else -1
+                behind = plain_step(book, stock, (name, way))
+                if behind is not None:
+                    go_on(behind, left[:k] + [left[k] - way] + left[k + 1:], order + [name])
+
+    go_on(f, list(account), [])
+    return orders
+
+
+def plain_kernel(rows, many):
+    """Rows of fractions that make up all rows of so many whose products with each of the rows are 0."""
+    rows = [[Fraction(number) for number in row] for row in rows]
+    heads = []
+    for j in range(many):
+        found = next((row for row in rows[len(heads):] if row[j]), None)
+        if found is None:
+            continue
+        rows.remove(found)
+        found = [number / found[j] for number in found]
+        rows = [[a - row[j] * b for a, b in zip(row, found)] for row in rows]
+        rows.insert(len(heads), found)
+        heads.append(j)
+    kernel = []
+    for j in range(many):
+        if j not in heads:
+            row = [Fraction(int(k == j)) for k in range(many)]
+            for head, step in zip(heads, rows):
+                row[head] = -step[j]
+            kernel.append(row)
+    return kernel
+
+
+def plain_least(rows, many):
+    """The least tuples of integers of at least 0 whose products with each row are 0, found for each lot of places."""
+    found = {}
+    for places in sorted(plain_subsets(many), key=len):
+        if not places or any(set(other) <= set(places) for other in found):
+            continue
+        cut = plain_kernel([[row[j] for j in places] for row in rows], len(places))
+        # A least one is the only one with its places, so nothing else is even there.
+        if len(cut) == 1 and (min(cut[0]) > 0 or max(cut[0]) < 0):
+            found[places] = whole_row(cut[0], places, many)
+    return sorted(found.values())
+
+
+def whole_row(numbers, places, many):
+    """The integers in lowest terms that are in the ratio of fractions of one sign, put at their places."""
+    bottom = math.lcm(*(number.denominator for number in numbers))
+    whole = [abs(int(number * bottom)) for number in numbers]
+    row = [0] * many
+    for j, number in zip(places, whole):
+        row[j] = number // math.gcd(*whole)
+    return tuple(row)
+
+
+def raised(function, *arguments):
+    """The error that a call raises: its class and the value of its attribute, or None without an attribute."""
+    try:
+        function(*arguments)
+    except (BarterError, NameMissing) as error:
+        attributes = list(vars(error).values())
+        return (type(error), attributes[0] if attributes else None)
+    return None
+
+
+def in_time(function, *arguments):
+    """What a call returns, or the error that it raises; it must end within a few seconds."""
+    begin = time.perf_counter()
+    try:
+        return function(*arguments)
+    except BarterError as error:
+        return error
+    finally:
+        passed = time.perf_counter() - begin
+        if passed > 5:
+            raise AssertionError(f"{function.__name__} took {passed} seconds")

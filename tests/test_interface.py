@@ -19,6 +19,24 @@ LISTED = {
     "trees": {"tree_of": 1, "judge_tree": 2, "leaves": 1, "forks": 1},
     "fractions": {"lowest": 2, "added": 2, "times": 2, "is_fraction": 1, "row_sum": 2},
     "solving": {"stairs": 1, "idle_stairs": 1, "rest": 2, "is_balance": 2},
+    "accounts": {
+        "balance": 2, "account_of": 3, "judge_account": 4, "no_account_row": 3, "judge_no_account": 4, "reduced": 2,
+        "cost": 3, "account_deeds": 2, "cancels_at": 3,
+    },
+    "stocks": {"is_stock": 2, "check_stock": 2, "stock_text": 2, "read_stock": 2},
+    "deeds": {"is_deed": 3, "done": 3, "deed_back": 3, "all_deeds": 2, "is_idle": 2},
+    "scripts": {
+        "stocks_along": 3, "walked": 3, "script_back": 3, "first_bad": 3, "price": 3, "script_text": 1,
+        "read_script": 1,
+    },
+    "plainwalks": {
+        "within": 3, "lot_by_walks": 2, "fewest_by_walks": 4, "walk_by_walks": 4, "cheapest_by_walks": 4,
+        "cheapest_walk": 4,
+    },
+    "carrying": {
+        "way": 3, "fewest_deeds": 3, "least_cost": 4, "next_deeds": 3, "last_deeds": 3, "change_of": 4, "begins": 4,
+        "judge_way": 4, "run_of": 3, "judge_run": 4,
+    },
 }
 BOOK_METHODS = {
     "goods": 0, "barters": 0, "names": 0, "row": 1, "takes": 1, "gives": 1, "good_number": 1, "barter_number": 1,

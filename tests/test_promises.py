@@ -3,19 +3,35 @@
 import copy
 import unittest
 
+from eitherbarter.accounts import (
+    account_deeds, account_of, balance, cancels_at, cost, judge_account, judge_no_account, no_account_row, reduced,
+)
 from eitherbarter.books import (
     Book, book_pieces, joined_books, part_book, turned_book, with_barter, without_barter,
 )
 from eitherbarter.booktexts import book_text, read_book
+from eitherbarter.carrying import (
+    begins, change_of, fewest_deeds, judge_run, judge_way, last_deeds, least_cost, next_deeds, run_of, way,
+)
 from eitherbarter.chains import chain_between, judge_chain, judge_round, linking, links_of, round_of
+from eitherbarter.deeds import all_deeds, deed_back, done, is_deed, is_idle
 from eitherbarter.errors import BadBook, BadTree, BarterError, NameMissing
 from eitherbarter.fractions import added, is_fraction, lowest, row_sum, times
 from eitherbarter.lexemes import lexemes
+from eitherbarter.plainwalks import (
+    cheapest_by_walks, cheapest_walk, fewest_by_walks, lot_by_walks, walk_by_walks, within,
+)
+from eitherbarter.scripts import (
+    first_bad, price, read_script, script_back, script_text, stocks_along, walked,
+)
 from eitherbarter.solving import idle_stairs, is_balance, rest, stairs
 from eitherbarter.squares import all_squares, is_good_book, judge_square, square_of
+from eitherbarter.stocks import check_stock, is_stock, read_stock, stock_text
 from eitherbarter.trees import forks, judge_tree, leaves, tree_of
 from eitherbarter.words import is_integer, is_number, is_word
-from tests.helpers import anything, coins, dependent, drawn_books, letters, ring
+from tests.helpers import (
+    anything, coins, dependent, drawn_books, letters, money, pair, ring, there_and_back, three,
+)
 
 
 def frozen(value):
@@ -107,10 +123,87 @@ def tree_calls():
     return calls
 
 
+def account_calls():
+    """Calls of stage 3, likewise."""
+    calls = []
+    for book, f, g in (
+        (three(), (7, 0, 0), (1, 0, 1)), (three(), (2, 0, 0), (1, 2, 0)), (dependent(), (2, 0), (0, 3)),
+        (dependent(), (1, 0), (0, 2)), (Book([], []), (), ()), (Book(["a"], []), (1,), (2,)),
+    ):
+        account = tuple(range(-1, len(book.names()) - 1))
+        prices = [3] * len(book.names())
+        calls.extend([
+            (balance, [book, account]), (account_of, [book, f, g]), (no_account_row, [book, f, g]),
+            (reduced, [book, account]), (cost, [book, account, prices]), (cost, [book, account, [-1]]),
+            (account_deeds, [book, account]), (cancels_at, [book, account, account[::-1]]),
+        ])
+        for value in [*anything(), account, [1, 2], [(1, 2), (0, 1), (0, 1)], ((1, 2), (0, 1))]:
+            for function in (balance, reduced, account_deeds):
+                calls.append((function, [book, value]))
+            for function in (judge_account, judge_no_account):
+                calls.append((function, [book, f, g, value]))
+            calls.extend([
+                (cost, [book, value, prices]), (cost, [book, account, value]), (cancels_at, [book, account, value]),
+            ])
+    return calls
+
+
+def deed_calls():
+    """Calls of stage 4, likewise."""
+    calls = []
+    script = [("p", 1), ("p", 1), ("p", 1), ("q", 1)]
+    for book, stock in ((pair(), (7, 0, 0)), (pair(), (1, 0, 0)), (Book([], []), ()), (Book(["a"], []), (3,))):
+        names = book.names()
+        other = stock[::-1]
+        calls.extend([(function, [book, stock]) for function in (stock_text, all_deeds, is_idle, lot_by_walks)])
+        calls.extend([(within, [book, stock, 3]), (within, [there_and_back(), (300, 300), 12])])
+        for function in (fewest_by_walks, walk_by_walks):
+            calls.extend([(function, [book, stock, other, 4]), (function, [book, stock, stock, 0])])
+        for function in (cheapest_by_walks, cheapest_walk):
+            calls.extend([(function, [book, stock, other, [1] * len(names)]), (function, [book, stock, stock, [0, 0]])])
+        for value in [*anything(), script, script[3:], [("p", 1), ["p", 1]], stock, ("p", 1), ["p", 1]]:
+            for function in (is_stock, check_stock):
+                calls.append((function, [book, value]))
+            for function in (is_deed, done, deed_back, first_bad):
+                calls.append((function, [book, stock, value]))
+            for function in (stocks_along, walked, script_back):
+                calls.extend([(function, [book, stock, value if isinstance(value, list) else [value]])])
+    for text in (
+        "stock { a 1; b 2; c 3; }", "stock { a 1; c 2; b 3; }", "stock {}", "stock { a", "", "script { back p; }",
+    ):
+        calls.extend([(read_stock, [pair(), text]), (read_script, [text])])
+    calls.extend([(price, [pair(), [1, 5], script]), (script_text, [script]), (script_text, [[]])])
+    return calls
+
+
+def carry_calls():
+    """Calls of stage 5, likewise."""
+    calls = []
+    walk = [("split", 1), ("split", 1), ("change", 1), ("change", 1)]
+    for book, f, g in (
+        (money(), (0, 0, 2), (10, 2, 0)), (money(), (0, 0, 2), (0, 0, 3)), (ring(3), (1, 0, 0), (0, 1, 0)),
+        (Book([], []), (), ()), (money(), (5, 1, 1), (5, 1, 1)),
+    ):
+        for function in (way, fewest_deeds, next_deeds, last_deeds):
+            calls.append((function, [book, f, g]))
+        calls.append((least_cost, [book, f, g, [3, 0]]))
+        for value in [*anything(), walk, walk + walk[:1], [("split", 1), ("split", -1)], ("split", 1), ("change", -1)]:
+            for function in (change_of, begins, judge_way):
+                calls.append((function, [book, f, g, value]))
+    for book, f, account in (
+        (there_and_back(), (0, 0), (1, 1)), (there_and_back(), (1, 0), (1, 1)), (ring(4), (0, 0, 0, 0), (2, 2, 2, 2)),
+        (money(), (0, 0, 2), (2, 2)), (money(), (0, 0, 2), (3, 2)), (Book([], []), (), ()),
+    ):
+        calls.append((run_of, [book, f, account]))
+        for value in [*anything(), ("stuck", [], (("p", "a"), ("q", "b"))), ("carried", walk), ["carried", walk]]:
+            calls.extend([(run_of, [book, f, value]), (judge_run, [book, f, account, value])])
+    return calls
+
+
 class AllFunctions(unittest.TestCase):
     @staticmethod
     def calls():
-        return book_calls() + tree_calls()
+        return book_calls() + tree_calls() + account_calls() + deed_calls() + carry_calls()
 
     def test_arguments_are_not_modified(self):
         for function, arguments in self.calls():
@@ -165,6 +258,17 @@ class AllFunctions(unittest.TestCase):
         self.assertEqual(Book(("a", "b"), (("p", (-1, 1)),)), Book(["a", "b"], [("p", (-1, 1))]))
         for function, names in ((turned_book, ["pack", "change"]), (part_book, ["bag", "note"])):
             self.assertEqual(function(coins(), tuple(names)), function(coins(), names))
+        script = [("p", 1), ("p", 1), ("p", 1), ("q", 1)]
+        for function in (stocks_along, walked, script_back, first_bad):
+            self.assertEqual(function(pair(), (7, 0, 0), tuple(script)), function(pair(), (7, 0, 0), script))
+        self.assertEqual(script_text(tuple(script)), script_text(script))
+        self.assertEqual(price(pair(), (1, 5), tuple(script)), price(pair(), [1, 5], script))
+        self.assertEqual(cost(three(), (3, 1), (5, 2)), cost(three(), (3, 1), [5, 2]))
+        self.assertEqual(least_cost(money(), (0, 0, 2), (10, 2, 0), (3, 0)), 6)
+        for function in (cheapest_by_walks, cheapest_walk):
+            ends = (0, 0, 2), (10, 2, 0)
+            self.assertEqual(function(money(), *ends, (3, 1)), function(money(), *ends, [3, 1]))
+        self.assertIs(judge_run(there_and_back(), (1, 0), (1, 1), ("carried", (("p", 1), ("q", 1)))), True)
 
     def test_a_list_is_not_taken_for_a_tuple(self):
         for goods, barters in (
@@ -178,6 +282,12 @@ class AllFunctions(unittest.TestCase):
         self.assertIs(judge_square(ring(2), (["n0", "n1"], ["g0", "g1"])), False)
         self.assertIs(judge_tree(Book(["a", "b"], []), ["a", "b", None]), False)
         self.assertIs(is_fraction([1, 2]), False)
+        self.assertIs(is_stock(pair(), [7, 0, 0]), False)
+        self.assertIs(is_deed(pair(), (7, 0, 0), ["p", 1]), False)
+        self.assertEqual(first_bad(pair(), (7, 0, 0), [("p", 1), ["p", 1]]), 1)
+        self.assertIs(judge_account(three(), (7, 0, 0), (1, 0, 1), [3, 1]), False)
+        self.assertIs(judge_no_account(three(), (2, 0, 0), (1, 2, 0), [(1, 2), (0, 1), (0, 1)]), False)
+        self.assertIs(judge_run(there_and_back(), (0, 0), (1, 1), ("stuck", [], [("p", "a"), ("q", "b")])), False)
         for function in (leaves, forks):
             for value, path in ((["a", "b", None], ()), ((["a", "b", None], "c", None), (0,)), ([], ())):
                 with self.assertRaises(BadTree) as caught:
@@ -190,6 +300,10 @@ class AllFunctions(unittest.TestCase):
             self.assertIs(is_number(value), False)
             self.assertIs(is_fraction((value, 1)), False)
             self.assertIs(is_fraction((2, value)), False)
+            self.assertIs(is_stock(pair(), (7, value, 0)), False)
+            self.assertIs(is_deed(pair(), (7, 7, 7), ("p", value)), False)
+            self.assertIs(judge_account(three(), (0, 0, 0), (0, 0, 0), (0, value)), False)
+            self.assertIs(judge_no_account(three(), (2, 0, 0), (1, 2, 0), ((1, 2), (0, 1), (value, 1))), False)
             with self.assertRaises(BadBook) as caught:
                 Book(["a", "b", "c"], [("p", (-1, 1, value))])
             self.assertEqual(caught.exception.path, (1, 0, 1, 2))
@@ -200,6 +314,11 @@ class AllFunctions(unittest.TestCase):
             is_word("a"), is_integer(0), is_number(0), is_good_book(book), is_balance(book, (0,) * 5),
             judge_tree(book, tree_of(book)), judge_chain(book, ("a",)), judge_square(ring(2), square_of(ring(2))),
             judge_round(ring(2), round_of(ring(2))), is_fraction((0, 1)), book == letters(),
+            judge_account(three(), (7, 0, 0), (1, 0, 1), (3, 1)), is_stock(pair(), (7, 0, 0)),
+            judge_no_account(three(), (2, 0, 0), (1, 2, 0), ((1, 2), (0, 1), (0, 1))),
+            is_deed(pair(), (7, 0, 0), ("p", 1)), is_idle(pair(), (1, 0, 0)),
+            begins(money(), (0, 0, 2), (10, 2, 0), ("split", 1)),
+            judge_run(there_and_back(), (1, 0), (1, 1), ("carried", [("p", 1), ("q", 1)])),
         ):
             self.assertIs(value, True)
 
