@@ -124,7 +124,8 @@ def judge_run(book, f, account, value):
         return False
     if len(value) == 2:
         return value[0] == "carried" and many_deeds(left) == 0
-    return value[0] == "stuck" and many_deeds(left) > 0 and are_waits(book, walked(book, f, value[1]), left, value[2])
+    # Waits name barters of which deeds are left, so that there are none if no deeds are left.
+    return value[0] == "stuck" and are_waits(book, walked(book, f, value[1]), left, value[2])
 
 
 def left_behind(book, f, account, script):

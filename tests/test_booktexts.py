@@ -7,7 +7,7 @@ from eitherbarter.books import Book
 from eitherbarter.booktexts import book_text, read_book
 from eitherbarter.errors import BadBook, BadText
 from tests.helpers import coins, drawn_book, drawn_books
-from tests.test_lexemes import plain_lexemes
+from tests.test_lexemes import plain_wrong_place
 
 TEXT = """book (coin, note, bag) {
 change (5 coin) to (1 note);
@@ -22,23 +22,6 @@ STATES = {
     11: {"to": 12}, 12: {"(": 13}, 13: {"NUMBER": 14}, 14: {"WORD": 15}, 15: {",": 13, ")": 16}, 16: {";": 6},
     17: {},
 }
-
-
-def plain_wrong_place(text):
-    """The first wrong place by the table, or None."""
-    stop = plain_lexemes(text)
-    if isinstance(stop, int):
-        found = plain_lexemes(text[:stop])
-    else:
-        found, stop = stop, None
-    state = 0
-    for sort, lexeme, place in found:
-        state = STATES[state].get(lexeme) or STATES[state].get({"word": "WORD", "number": "NUMBER"}.get(sort))
-        if state is None:
-            return place
-    if stop is None and state != 17:
-        return len(text)
-    return stop
 
 
 class Texts(unittest.TestCase):
@@ -134,7 +117,7 @@ class Texts(unittest.TestCase):
                 self.assertEqual(read_book(text), Book([], []))
             else:
                 self.assertEqual(self.wrong_place(text), place, text)
-                self.assertEqual(plain_wrong_place(text), place, text)
+                self.assertEqual(plain_wrong_place(text, STATES, 17), place, text)
 
     def test_signs_ahead_of_and_behind_a_wrong_lexeme(self):
         self.assertEqual(self.wrong_place("book ( ) ) ["), 9)
@@ -151,7 +134,7 @@ class Texts(unittest.TestCase):
         squeezed = TEXT.replace(", ", ",").replace("\n", "")
         for text in (TEXT, squeezed, "book () {\n}\n"):
             for end in range(len(text)):
-                place = plain_wrong_place(text[:end])
+                place = plain_wrong_place(text[:end], STATES, 17)
                 if place is None:
                     self.assertEqual(text[end:].strip(), "")
                     self.assertEqual(read_book(text[:end]), read_book(text))
@@ -166,7 +149,7 @@ class Texts(unittest.TestCase):
             for _ in range(rng.randint(1, 2)):
                 place = rng.randrange(len(text) + 1)
                 text = text[:place] + rng.choice([*signs, ""]) + text[place + rng.choice([0, 0, 1, 2, 5]):]
-            place = plain_wrong_place(text)
+            place = plain_wrong_place(text, STATES, 17)
             if place is not None:
                 self.assertEqual(self.wrong_place(text), place, text)
                 continue

@@ -388,11 +388,33 @@ class Runs(unittest.TestCase):
         ):
             self.assertIs(judge_run(book, (0, 0), (1, 1), value), False, value)
         self.assertIs(judge_run(book, (0, 0), (1, 1), ("stuck", (), waits)), True)
+        for word in ("stuck", "Carried", "", None, 0, True, "carriedx", ("carried",)):
+            self.assertIs(judge_run(book, (1, 0), (1, 1), (word, [("p", 1), ("q", 1)])), False)
+        self.assertIs(judge_run(book, (1, 0), (1, 1), ("stuck", [("p", 1), ("q", 1)], waits)), False)
         # An account of noughts is carried out by the empty script alone.
         self.assertIs(judge_run(book, (0, 0), (0, 0), ("carried", [])), True)
         self.assertIs(judge_run(book, (0, 0), (0, 0), ("stuck", [], waits)), False)
         # Deeds that are taken back are none of the account.
         self.assertIs(judge_run(book, (1, 0), (1, 1), ("carried", [("p", 1), ("p", -1), ("p", 1), ("q", 1)])), False)
+
+    def test_one_is_not_stuck_where_another_deed_can_be_done(self):
+        book = Book(["a", "b", "c", "d"], [("p", (-1, 1, 0, 0)), ("q", (1, -1, 0, 0)), ("r", (0, 0, -1, 1))])
+        waits = (("p", "a"), ("q", "b"))
+        f, account = (0, 0, 1, 0), (1, 1, 1)
+        self.assertIs(judge_run(book, f, account, ("stuck", [], waits)), False)
+        self.assertIs(judge_run(book, f, account, ("stuck", [("r", 1)], waits)), True)
+        self.assertEqual(self.check(book, f, account)[:2], ("stuck", [("r", 1)]))
+
+    def test_each_barter_lacks_its_own_good(self):
+        # There is just as much of x as p takes, so p does not wait for it.
+        book = Book(["a", "b", "x"], [("p", (-1, 1, -2)), ("q", (1, -1, 2))])
+        self.check(book, (0, 0, 2), (1, 1))
+        for f, good, expected in (
+            ((0, 0, 2), "a", True), ((0, 0, 2), "x", False), ((0, 0, 3), "x", False), ((0, 0, 1), "x", True),
+            ((1, 0, 1), "x", True), ((1, 0, 1), "a", False), ((0, 0, 0), "a", True),
+        ):
+            for waits in ((("p", good), ("q", "b")), (("q", "b"), ("p", good))):
+                self.assertIs(judge_run(book, f, (1, 1), ("stuck", [], waits)), expected, (f, waits))
 
     def test_values_of_all_kinds_as_runs(self):
         waits = (("p", "a"), ("q", "b"))

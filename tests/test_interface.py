@@ -37,6 +37,19 @@ LISTED = {
         "way": 3, "fewest_deeds": 3, "least_cost": 4, "next_deeds": 3, "last_deeds": 3, "change_of": 4, "begins": 4,
         "judge_way": 4, "run_of": 3, "judge_run": 4,
     },
+    "between": {"is_between": 4, "all_between": 3, "count_between": 3, "nearest_stock": 3},
+    "moments": {"stock_at": 4, "is_moment": 4, "all_moments": 3, "next_names": 4, "is_ample": 3, "needed": 3},
+    "orders": {
+        "judge_order": 4, "any_order": 3, "order_script": 4, "count_orders": 3, "order_at": 4, "order_number": 4,
+        "next_order": 4, "drawn_order": 4, "orders_beginning": 4,
+    },
+    "weights": {
+        "weight": 3, "is_keeper": 2, "least_keepers": 1, "weights_of": 1, "judge_weights": 2, "tree_weights": 2,
+    },
+    "pumps": {
+        "least_gains": 1, "pump_of": 1, "judge_pump": 2, "kept_goods": 1, "pumped_goods": 1, "great_pump": 1,
+        "good_paper": 2, "judge_good_paper": 3,
+    },
 }
 BOOK_METHODS = {
     "goods": 0, "barters": 0, "names": 0, "row": 1, "takes": 1, "gives": 1, "good_number": 1, "barter_number": 1,

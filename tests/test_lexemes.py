@@ -23,6 +23,26 @@ def plain_lexemes(text):
     return found
 
 
+def plain_wrong_place(text, states, end):
+    """The first wrong place by a table, or None.
+
+    The table tells for each state of a form what may come in it and the state behind that; the form ends in one.
+    """
+    stop = plain_lexemes(text)
+    if isinstance(stop, int):
+        found = plain_lexemes(text[:stop])
+    else:
+        found, stop = stop, None
+    state = 0
+    for sort, lexeme, place in found:
+        state = states[state].get(lexeme) or states[state].get({"word": "WORD", "number": "NUMBER"}.get(sort))
+        if state is None:
+            return place
+    if stop is None and state != end:
+        return len(text)
+    return stop
+
+
 class Lexemes(unittest.TestCase):
     def wrong_place(self, text):
         with self.assertRaises(BadText) as caught:

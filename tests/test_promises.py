@@ -6,6 +6,7 @@ import unittest
 from eitherbarter.accounts import (
     account_deeds, account_of, balance, cancels_at, cost, judge_account, judge_no_account, no_account_row, reduced,
 )
+from eitherbarter.between import all_between, count_between, is_between, nearest_stock
 from eitherbarter.books import (
     Book, book_pieces, joined_books, part_book, turned_book, with_barter, without_barter,
 )
@@ -18,8 +19,16 @@ from eitherbarter.deeds import all_deeds, deed_back, done, is_deed, is_idle
 from eitherbarter.errors import BadBook, BadTree, BarterError, NameMissing
 from eitherbarter.fractions import added, is_fraction, lowest, row_sum, times
 from eitherbarter.lexemes import lexemes
+from eitherbarter.moments import all_moments, is_ample, is_moment, needed, next_names, stock_at
+from eitherbarter.orders import (
+    any_order, count_orders, drawn_order, judge_order, next_order, order_at, order_number, order_script,
+    orders_beginning,
+)
 from eitherbarter.plainwalks import (
     cheapest_by_walks, cheapest_walk, fewest_by_walks, lot_by_walks, walk_by_walks, within,
+)
+from eitherbarter.pumps import (
+    good_paper, great_pump, judge_good_paper, judge_pump, kept_goods, least_gains, pump_of, pumped_goods,
 )
 from eitherbarter.scripts import (
     first_bad, price, read_script, script_back, script_text, stocks_along, walked,
@@ -28,6 +37,7 @@ from eitherbarter.solving import idle_stairs, is_balance, rest, stairs
 from eitherbarter.squares import all_squares, is_good_book, judge_square, square_of
 from eitherbarter.stocks import check_stock, is_stock, read_stock, stock_text
 from eitherbarter.trees import forks, judge_tree, leaves, tree_of
+from eitherbarter.weights import is_keeper, judge_weights, least_keepers, tree_weights, weight, weights_of
 from eitherbarter.words import is_integer, is_number, is_word
 from tests.helpers import (
     anything, coins, dependent, drawn_books, letters, money, pair, ring, there_and_back, three,
@@ -200,10 +210,58 @@ def carry_calls():
     return calls
 
 
+def order_calls():
+    """Calls of stages 5 and 6 about what is between, moments and orders, likewise."""
+    calls = []
+    order = ["split", "change", "split", "change"]
+    for book, f, account in (
+        (money(), (0, 0, 2), (2, 2)), (money(), (10, 2, 0), (-2, -2)), (money(), (0, 0, 2), (3, 2)),
+        (ring(3), (1, 0, 0), (0, 0, 0)), (Book([], []), (), ()), (money(), (5, 1, 1), (0, 0)),
+    ):
+        g = f[::-1] if book != money() else (10, 2, 0)
+        for function in (all_between, count_between):
+            calls.append((function, [book, f, g]))
+        calls.extend([(is_between, [book, f, f, g]), (nearest_stock, [book, f, [g, f]])])
+        for function in (all_moments, is_ample, needed, any_order, count_orders):
+            calls.append((function, [book, f, account]))
+        for number in (0, 1, 2, 3, 10 ** 59):
+            calls.extend([(order_at, [book, f, account, number]), (drawn_order, [book, f, account, number])])
+        for value in [*anything(), order, order[:2], tuple(order), order[::-1], (1, 1), (0, 1), [1, 1]]:
+            for function in (stock_at, is_moment, next_names, judge_order):
+                calls.append((function, [book, f, account, value]))
+            members = value if isinstance(value, (list, tuple)) else [value]
+            for function in (order_script, order_number, next_order, orders_beginning):
+                calls.append((function, [book, f, account, members]))
+            calls.extend([(needed, [book, f, value]), (count_orders, [book, f, value])])
+    return calls
+
+
+def weight_calls():
+    """Calls of stage 7, likewise."""
+    calls = []
+    twice = Book(["a", "b"], [("u", (-1, 2)), ("v", (2, -1))])
+    tree = (("a", "b", "p"), "c", "q")
+    for book in (three(), twice, Book([], []), Book(["a", "b"], []), ring(3), *drawn_books(46, 8, 5, 5)):
+        row = tuple(range(-1, len(book.goods()) - 1))
+        calls.append((weight, [book, row, row[::-1]]))
+        for function in (
+            least_keepers, weights_of, least_gains, pump_of, kept_goods, pumped_goods, great_pump,
+        ):
+            calls.append((function, [book]))
+        for good in [*book.goods(), "nothing"]:
+            calls.append((good_paper, [book, good]))
+        for value in [*anything(), tree, (1, 2, 6), [1, 2, 6], (2, 1), ("kept", (1, 2, 6)), ("pumped", (2, 1))]:
+            for function in (is_keeper, judge_weights, judge_pump, tree_weights, good_paper):
+                calls.append((function, [book, value]))
+            calls.extend([(judge_good_paper, [book, "a", value]), (judge_good_paper, [book, value, value])])
+    return calls
+
+
 class AllFunctions(unittest.TestCase):
     @staticmethod
     def calls():
-        return book_calls() + tree_calls() + account_calls() + deed_calls() + carry_calls()
+        early = book_calls() + tree_calls() + account_calls() + deed_calls() + carry_calls()
+        return early + order_calls() + weight_calls()
 
     def test_arguments_are_not_modified(self):
         for function, arguments in self.calls():
@@ -269,6 +327,11 @@ class AllFunctions(unittest.TestCase):
             ends = (0, 0, 2), (10, 2, 0)
             self.assertEqual(function(money(), *ends, (3, 1)), function(money(), *ends, [3, 1]))
         self.assertIs(judge_run(there_and_back(), (1, 0), (1, 1), ("carried", (("p", 1), ("q", 1)))), True)
+        self.assertEqual(nearest_stock(money(), (0, 0, 2), ((10, 2, 0), (0, 4, 0))), 1)
+        order = ["split", "change", "split", "change"]
+        for function in (judge_order, order_script, order_number, next_order, orders_beginning):
+            case = money(), (0, 0, 2), (2, 2)
+            self.assertEqual(function(*case, tuple(order)), function(*case, order))
 
     def test_a_list_is_not_taken_for_a_tuple(self):
         for goods, barters in (
@@ -288,6 +351,10 @@ class AllFunctions(unittest.TestCase):
         self.assertIs(judge_account(three(), (7, 0, 0), (1, 0, 1), [3, 1]), False)
         self.assertIs(judge_no_account(three(), (2, 0, 0), (1, 2, 0), [(1, 2), (0, 1), (0, 1)]), False)
         self.assertIs(judge_run(there_and_back(), (0, 0), (1, 1), ("stuck", [], [("p", "a"), ("q", "b")])), False)
+        self.assertIs(is_moment(money(), (0, 0, 2), (2, 2), [1, 1]), False)
+        self.assertIs(is_keeper(three(), [1, 2, 6]), False)
+        self.assertIs(judge_weights(three(), [1, 2, 6]), False)
+        self.assertIs(judge_good_paper(three(), "a", ["kept", (1, 2, 6)]), False)
         for function in (leaves, forks):
             for value, path in ((["a", "b", None], ()), ((["a", "b", None], "c", None), (0,)), ([], ())):
                 with self.assertRaises(BadTree) as caught:
@@ -303,6 +370,10 @@ class AllFunctions(unittest.TestCase):
             self.assertIs(is_stock(pair(), (7, value, 0)), False)
             self.assertIs(is_deed(pair(), (7, 7, 7), ("p", value)), False)
             self.assertIs(judge_account(three(), (0, 0, 0), (0, 0, 0), (0, value)), False)
+            self.assertIs(is_moment(money(), (0, 2, 2), (2, 2), (1, value)), False)
+            self.assertIs(is_keeper(Book(["a", "b"], []), (1, value)), False)
+            self.assertIs(judge_weights(Book(["a", "b"], []), (1, value)), False)
+            self.assertIs(judge_pump(Book(["a", "b"], [("u", (-1, 2)), ("v", (2, -1))]), (2, value)), False)
             self.assertIs(judge_no_account(three(), (2, 0, 0), (1, 2, 0), ((1, 2), (0, 1), (value, 1))), False)
             with self.assertRaises(BadBook) as caught:
                 Book(["a", "b", "c"], [("p", (-1, 1, value))])
@@ -319,6 +390,10 @@ class AllFunctions(unittest.TestCase):
             is_deed(pair(), (7, 0, 0), ("p", 1)), is_idle(pair(), (1, 0, 0)),
             begins(money(), (0, 0, 2), (10, 2, 0), ("split", 1)),
             judge_run(there_and_back(), (1, 0), (1, 1), ("carried", [("p", 1), ("q", 1)])),
+            is_between(money(), (0, 0, 2), (5, 1, 1), (10, 2, 0)), is_moment(money(), (0, 0, 2), (2, 2), (1, 1)),
+            is_ample(money(), (0, 2, 2), (2, 2)), is_keeper(three(), (1, 2, 6)), judge_weights(three(), (1, 2, 6)),
+            judge_pump(Book(["a", "b"], [("u", (-1, 2)), ("v", (2, -1))]), (2, 1)),
+            judge_good_paper(three(), "a", ("kept", (1, 2, 6))),
         ):
             self.assertIs(value, True)
 

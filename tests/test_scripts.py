@@ -11,7 +11,8 @@ from eitherbarter.scripts import (
 from tests.helpers import (
     anything, drawn_books, money, nested, pair, plain_deeds, plain_step, plain_walk, plus, raised,
 )
-from tests.test_stocks import plain_wrong_place, spoiled_texts
+from tests.test_lexemes import plain_wrong_place
+from tests.test_stocks import spoiled_texts
 
 SCRIPT = [("p", 1), ("p", 1), ("p", 1), ("q", 1)]
 TEXT = "script {\nforward p;\nback q;\nforward p;\n}\n"

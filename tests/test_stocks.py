@@ -7,29 +7,12 @@ from eitherbarter.books import Book
 from eitherbarter.errors import BadStock, BadText
 from eitherbarter.stocks import check_stock, is_stock, read_stock, stock_text
 from tests.helpers import anything, drawn_books, money, pair, raised
-from tests.test_lexemes import plain_lexemes
+from tests.test_lexemes import plain_lexemes, plain_wrong_place
 
 TEXT = "stock {\na 7;\nb 0;\nc 0;\n}\n"
 
 # The form of a stock as a table: what may come in a state, and the state behind it; 6 is the end.
 STATES = {0: {"stock": 1}, 1: {"{": 2}, 2: {"}": 6, "WORD": 3}, 3: {"NUMBER": 4}, 4: {";": 2}, 6: {}}
-
-
-def plain_wrong_place(text, states, end):
-    """The first wrong place by a table, or None."""
-    stop = plain_lexemes(text)
-    if isinstance(stop, int):
-        found = plain_lexemes(text[:stop])
-    else:
-        found, stop = stop, None
-    state = 0
-    for sort, lexeme, place in found:
-        state = states[state].get(lexeme) or states[state].get({"word": "WORD", "number": "NUMBER"}.get(sort))
-        if state is None:
-            return place
-    if stop is None and state != end:
-        return len(text)
-    return stop
 
 
 def spoiled_texts(text):
