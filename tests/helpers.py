@@ -8,6 +8,7 @@ from fractions import Fraction
 
 from eitherbarter.books import Book
 from eitherbarter.errors import BadBook, BarterError, NameMissing, UnknownName
+from eitherbarter.weights import tree_weights
 
 
 def coins():
@@ -46,6 +47,11 @@ def money():
 def there_and_back():
     """The book of the example in S5.8."""
     return Book(["a", "b"], [("p", (-1, 1)), ("q", (1, -1))])
+
+
+def three_twos():
+    """The first book of S9.5."""
+    return Book(["a", "b", "c"], [("p", (-3, 2, 0)), ("q", (-1, -1, 2))])
 
 
 def ring(many):
@@ -482,3 +488,38 @@ def in_time(function, *arguments):
         passed = time.perf_counter() - begin
         if passed > 5:
             raise AssertionError(f"{function.__name__} took {passed} seconds")
+
+
+def plain_stocks(weights, most):
+    """The dict of the ascending lists of all stocks of the weights 0 to most."""
+    found = {number: [] for number in range(most + 1)}
+
+    def go_on(stock, total):
+        if len(stock) == len(weights):
+            found[total].append(stock)
+            return
+        for many in range((most - total) // weights[len(stock)] + 1):
+            go_on(stock + (many,), total + many * weights[len(stock)])
+
+    go_on((), 0)
+    return {number: sorted(stocks) for number, stocks in found.items()}
+
+
+def plain_first_stocks(book, stocks):
+    """The first stocks of the lots of all these stocks, which are whole lots, in order, found by walks."""
+    firsts, met = [], set()
+    for stock in sorted(stocks):
+        if stock not in met:
+            firsts.append(stock)
+            met |= set(plain_met(book, stock))
+    return firsts
+
+
+def drawn_weighted(rng, goods, share, most=3, heaviest=300, times=2):
+    """A drawn good book with weights, the tree weights multiplied, of at most so much."""
+    while True:
+        book, tree = drawn_good_book(rng, goods, share, most)
+        many = rng.randint(1, times)
+        weights = tuple(many * number for number in tree_weights(book, tree))
+        if max(weights, default=0) <= heaviest:
+            return book, weights

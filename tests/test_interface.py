@@ -50,6 +50,14 @@ LISTED = {
         "least_gains": 1, "pump_of": 1, "judge_pump": 2, "kept_goods": 1, "pumped_goods": 1, "great_pump": 1,
         "good_paper": 2, "judge_good_paper": 3,
     },
+    "breaking": {"breaking": 1, "judge_breaking": 2},
+    "changes": {"are_free": 3, "free_pairs": 1, "can_put": 2, "put_paper": 3, "judge_put": 4},
+    "makers": {
+        "book_of_boxes": 1, "boxes_tree": 1, "book_of_coins": 1, "coins_tree": 1, "book_of_tree": 1, "plain_tree": 1,
+        "numbered_form": 1, "bridged_books": 3,
+    },
+    "series": {"stock_series": 2, "lot_series": 3, "mirror": 2},
+    "mirrors": {"account_to_stock": 2, "mirror_row": 1, "mirror_paper": 2, "judge_mirror_paper": 3},
 }
 BOOK_METHODS = {
     "goods": 0, "barters": 0, "names": 0, "row": 1, "takes": 1, "gives": 1, "good_number": 1, "barter_number": 1,

@@ -11,14 +11,20 @@ from eitherbarter.books import (
     Book, book_pieces, joined_books, part_book, turned_book, with_barter, without_barter,
 )
 from eitherbarter.booktexts import book_text, read_book
+from eitherbarter.breaking import breaking, judge_breaking
 from eitherbarter.carrying import (
     begins, change_of, fewest_deeds, judge_run, judge_way, last_deeds, least_cost, next_deeds, run_of, way,
 )
 from eitherbarter.chains import chain_between, judge_chain, judge_round, linking, links_of, round_of
+from eitherbarter.changes import are_free, can_put, free_pairs, judge_put, put_paper
 from eitherbarter.deeds import all_deeds, deed_back, done, is_deed, is_idle
-from eitherbarter.errors import BadBook, BadTree, BarterError, NameMissing
+from eitherbarter.errors import BadBook, BadMade, BadTree, BarterError, NameMissing
 from eitherbarter.fractions import added, is_fraction, lowest, row_sum, times
 from eitherbarter.lexemes import lexemes
+from eitherbarter.makers import (
+    book_of_boxes, book_of_coins, book_of_tree, boxes_tree, bridged_books, coins_tree, numbered_form, plain_tree,
+)
+from eitherbarter.mirrors import account_to_stock, judge_mirror_paper, mirror_paper, mirror_row
 from eitherbarter.moments import all_moments, is_ample, is_moment, needed, next_names, stock_at
 from eitherbarter.orders import (
     any_order, count_orders, drawn_order, judge_order, next_order, order_at, order_number, order_script,
@@ -33,6 +39,7 @@ from eitherbarter.pumps import (
 from eitherbarter.scripts import (
     first_bad, price, read_script, script_back, script_text, stocks_along, walked,
 )
+from eitherbarter.series import lot_series, mirror, stock_series
 from eitherbarter.solving import idle_stairs, is_balance, rest, stairs
 from eitherbarter.squares import all_squares, is_good_book, judge_square, square_of
 from eitherbarter.stocks import check_stock, is_stock, read_stock, stock_text
@@ -40,7 +47,7 @@ from eitherbarter.trees import forks, judge_tree, leaves, tree_of
 from eitherbarter.weights import is_keeper, judge_weights, least_keepers, tree_weights, weight, weights_of
 from eitherbarter.words import is_integer, is_number, is_word
 from tests.helpers import (
-    anything, coins, dependent, drawn_books, letters, money, pair, ring, there_and_back, three,
+    anything, coins, dependent, drawn_books, letters, money, pair, ring, there_and_back, three, three_twos,
 )
 
 
@@ -257,11 +264,52 @@ def weight_calls():
     return calls
 
 
+def change_calls():
+    """Calls of stage 8, likewise."""
+    calls = []
+    kinds = [("nail", None), ("plank", None), ("crate", (("nail", 8), ("plank", 6)))]
+    tree = (("b", "a", None), "c", ("p", (("a", 2),), (("c", 1),)))
+    bridge = ("s", (("a", 2),), (("e", 5),))
+    other = Book(["d", "e"], [("r", (-2, 3))])
+    broken = ((("p", "q"), ("a", "b")), (0, 0), (0, 0), (1, 1))
+    for book in (three(), there_and_back(), letters(), Book(["a", "b", "c"], []), *drawn_books(47, 8, 5, 5)):
+        row = (1, -1) + (0,) * (len(book.goods()) - 2) if len(book.goods()) > 1 else ()
+        calls.extend([(breaking, [book]), (free_pairs, [book]), (numbered_form, [book])])
+        calls.extend([(bridged_books, [book, other, bridge]), (bridged_books, [other, book, bridge])])
+        if row:
+            calls.extend([(can_put, [book, row]), (put_paper, [book, "new", row])])
+        for value in [*anything(), broken, kinds, tree, ("chain", ("a", "p", "b")), "a", "b"]:
+            calls.extend([(judge_breaking, [book, value]), (are_free, [book, value, "b"]), (are_free, [book, "a", value])])
+            if row:
+                calls.append((judge_put, [book, "new", row, value]))
+    for value in [*anything(), kinds, [("penny", None), ("dime", 10)], [("a", None), ["b", 1]], tree, [tree], bridge]:
+        for function in (book_of_boxes, boxes_tree, book_of_coins, coins_tree, book_of_tree, plain_tree):
+            calls.append((function, [value]))
+        calls.append((bridged_books, [three(), other, value]))
+    return calls
+
+
+def series_calls():
+    """Calls of stage 9 about series and mirrors, likewise."""
+    calls = [(stock_series, [[4, 6, 5], 12]), (stock_series, [[], 0])]
+    for book, weights in (
+        (three_twos(), [4, 6, 5]), (three(), [1, 2, 6]), (Book([], []), []), (Book(["a", "b"], []), [2, 3]),
+        (ring(3), [1, 1, 1]), (Book(["a"], []), [3]),
+    ):
+        calls.extend([(lot_series, [book, weights, 9]), (mirror, [book, weights]), (mirror_row, [book])])
+        for number in (-1, 0, 2):
+            row = tuple(number - 3 * (j == 1) for j in range(len(weights)))
+            calls.extend([(account_to_stock, [book, row]), (mirror_paper, [book, row])])
+            for value in [*anything(), ("here", (0, 1)), ("there", (0, 1)), ["here", (0, 1)], ("here", [0, 1])]:
+                calls.append((judge_mirror_paper, [book, row, value]))
+    return calls
+
+
 class AllFunctions(unittest.TestCase):
     @staticmethod
     def calls():
         early = book_calls() + tree_calls() + account_calls() + deed_calls() + carry_calls()
-        return early + order_calls() + weight_calls()
+        return early + order_calls() + weight_calls() + change_calls() + series_calls()
 
     def test_arguments_are_not_modified(self):
         for function, arguments in self.calls():
@@ -332,6 +380,15 @@ class AllFunctions(unittest.TestCase):
         for function in (judge_order, order_script, order_number, next_order, orders_beginning):
             case = money(), (0, 0, 2), (2, 2)
             self.assertEqual(function(*case, tuple(order)), function(*case, order))
+        coined = [("penny", None), ("dime", 10)]
+        for function in (book_of_coins, coins_tree):
+            self.assertEqual(function(tuple(coined)), function(coined))
+        boxed = [("a", None), ("b", (("a", 2),))]
+        for function in (book_of_boxes, boxes_tree):
+            self.assertEqual(function(tuple(boxed)), function(boxed))
+        self.assertEqual(stock_series((4, 6, 5), 12), stock_series([4, 6, 5], 12))
+        self.assertEqual(lot_series(three_twos(), (4, 6, 5), 12), lot_series(three_twos(), [4, 6, 5], 12))
+        self.assertEqual(mirror(three_twos(), (4, 6, 5)), mirror(three_twos(), [4, 6, 5]))
 
     def test_a_list_is_not_taken_for_a_tuple(self):
         for goods, barters in (
@@ -355,6 +412,14 @@ class AllFunctions(unittest.TestCase):
         self.assertIs(is_keeper(three(), [1, 2, 6]), False)
         self.assertIs(judge_weights(three(), [1, 2, 6]), False)
         self.assertIs(judge_good_paper(three(), "a", ["kept", (1, 2, 6)]), False)
+        self.assertIs(judge_put(three(), "new", (-1, 0, 1), ["chain", ("c", "q", "b", "p", "a")]), False)
+        self.assertIs(judge_mirror_paper(three_twos(), (2, 1, -2), ["here", (0, 1)]), False)
+        self.assertIs(judge_mirror_paper(three_twos(), (2, 1, -2), ("here", [0, 1])), False)
+        for function, value in (
+            (book_of_boxes, [["a", None]]), (coins_tree, [["a", None]]), (book_of_tree, ["a", "b", None]),
+        ):
+            with self.assertRaises(BadMade):
+                function(value)
         for function in (leaves, forks):
             for value, path in ((["a", "b", None], ()), ((["a", "b", None], "c", None), (0,)), ([], ())):
                 with self.assertRaises(BadTree) as caught:
@@ -375,6 +440,10 @@ class AllFunctions(unittest.TestCase):
             self.assertIs(judge_weights(Book(["a", "b"], []), (1, value)), False)
             self.assertIs(judge_pump(Book(["a", "b"], [("u", (-1, 2)), ("v", (2, -1))]), (2, value)), False)
             self.assertIs(judge_no_account(three(), (2, 0, 0), (1, 2, 0), ((1, 2), (0, 1), (value, 1))), False)
+            self.assertIs(judge_mirror_paper(three_twos(), (0, 0, 0), ("here", (0, value))), False)
+            for function in (book_of_coins, coins_tree):
+                with self.assertRaises(BadMade):
+                    function([("a", None), ("b", value)])
             with self.assertRaises(BadBook) as caught:
                 Book(["a", "b", "c"], [("p", (-1, 1, value))])
             self.assertEqual(caught.exception.path, (1, 0, 1, 2))
@@ -393,7 +462,10 @@ class AllFunctions(unittest.TestCase):
             is_between(money(), (0, 0, 2), (5, 1, 1), (10, 2, 0)), is_moment(money(), (0, 0, 2), (2, 2), (1, 1)),
             is_ample(money(), (0, 2, 2), (2, 2)), is_keeper(three(), (1, 2, 6)), judge_weights(three(), (1, 2, 6)),
             judge_pump(Book(["a", "b"], [("u", (-1, 2)), ("v", (2, -1))]), (2, 1)),
-            judge_good_paper(three(), "a", ("kept", (1, 2, 6))),
+            judge_good_paper(three(), "a", ("kept", (1, 2, 6))), judge_breaking(ring(2), breaking(ring(2))),
+            are_free(Book(["a", "b"], []), "a", "b"), can_put(Book(["a", "b"], []), (1, -1)),
+            judge_put(three(), "new", (-1, 0, 1), ("chain", ("c", "q", "b", "p", "a"))),
+            judge_mirror_paper(three_twos(), (2, 1, -2), ("here", (0, 1))),
         ):
             self.assertIs(value, True)
 
