@@ -42,7 +42,7 @@ def read_book(text):
 def read_parts(reader):
     """What the form of a whole text holds: the goods, and triples (name, taken, given) with two sides."""
     reader.take("book")
-    goods = read_names(reader)
+    goods = reader.take_list("word")
     reader.take("{")
     told = []
     while not reader.sees("}"):
@@ -55,19 +55,6 @@ def read_parts(reader):
     reader.take("}")
     reader.take_end()
     return goods, told
-
-
-def read_names(reader):
-    """The names of a LIST."""
-    names = []
-    reader.take("(")
-    if not reader.sees(")"):
-        names.append(reader.take_sort("word"))
-        while reader.sees(","):
-            reader.take(",")
-            names.append(reader.take_sort("word"))
-    reader.take(")")
-    return names
 
 
 def read_side(reader):

@@ -77,6 +77,25 @@ class Reader:
         self._at += 1
         return self._found[self._at - 1][1]
 
+    def take_any(self, words):
+        """Goes on behind the next lexeme, which must be one of these words, and returns it."""
+        if self._at == len(self._found) or self._found[self._at][1] not in words:
+            raise BadText(self.wrong_place())
+        self._at += 1
+        return self._found[self._at - 1][1]
+
+    def take_list(self, sort):
+        """Goes on behind ( and ) and lexemes of this sort between them, with commas, and returns the list of these."""
+        told = []
+        self.take("(")
+        if not self.sees(")"):
+            told.append(self.take_sort(sort))
+            while self.sees(","):
+                self.take(",")
+                told.append(self.take_sort(sort))
+        self.take(")")
+        return told
+
     def take_end(self):
         """Nothing but blanks and line feeds may be left."""
         if self._at < len(self._found) or self._stop < self._length:

@@ -48,7 +48,7 @@ def levels_of(task, bound):
     TooGreat is raised if there are more moments than bound, if that is not None.
     """
     levels = []
-    level = {task.first: task.stock}
+    level = {task.first: task.start}
     many = 0
     while level:
         levels.append(level)

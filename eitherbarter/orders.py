@@ -26,7 +26,7 @@ def steps_along(book, task, value):
     """The numbers of the barters that the members of a list name, up to the first wrong one, and the moment behind."""
     steps = []
     moment = task.first
-    stock = task.stock
+    stock = task.start
     for name in value:
         if not book.has_barter(name) or book.barter_number(name) not in task.ready(moment, stock):
             return steps, moment
@@ -89,7 +89,7 @@ def numbered_order(task, counts, number):
     """The doable order with a number that is below the number of all."""
     steps = []
     moment = task.first
-    stock = task.stock
+    stock = task.start
     while moment != task.amounts:
         ready = task.ready(moment, stock)
         # Those are passed over by which only orders with lesser numbers go on.
@@ -112,7 +112,7 @@ def number_of(task, counts, steps):
     """How many doable orders come before the one that the numbers of barters tell."""
     before = 0
     moment = task.first
-    stock = task.stock
+    stock = task.start
     for k in steps:
         earlier = [other for other in task.ready(moment, stock) if other < k]
         before += sum([counts[one_more(moment, other)] for other in earlier])

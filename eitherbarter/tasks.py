@@ -19,11 +19,11 @@ class Task:
         self.rows = [times_row(way, barter[1]) for way, barter in zip(self.ways, book.barters())]
         self.amounts = tuple([abs(number) for number in account])
         self.first = (0,) * len(account)
-        self.stock = f
+        self.start = f
 
     def stock_after(self, moment):
         """The row that the first stock and the deeds of the moment add up to."""
-        row = self.stock
+        row = self.start
         for number, step in zip(moment, self.rows):
             row = combined(1, row, number, step)
         return row
@@ -69,7 +69,7 @@ def done_so_far(task):
     """The numbers of barters whose deeds are done one after another as far as it goes, the moment and the stock."""
     steps = []
     moment = task.first
-    stock = task.stock
+    stock = task.start
     ready = task.ready(moment, stock)
     while ready:
         steps.append(ready[0])

@@ -58,11 +58,23 @@ LISTED = {
     },
     "series": {"stock_series": 2, "lot_series": 3, "mirror": 2},
     "mirrors": {"account_to_stock": 2, "mirror_row": 1, "mirror_paper": 2, "judge_mirror_paper": 3},
+    "lots": {"is_one_lot": 3, "lot_of": 2, "first_stock": 2, "lots_at": 3},
+    "lotnumbers": {"lot_at": 4, "lot_number": 3, "next_lot": 3, "lots_from": 5, "drawn_lot": 4},
+    "goals": {"plan_after": 3, "dues_after": 3, "wasted": 3, "free_account": 4},
+    "acts": {"act_word": 2, "state_after": 2, "is_good_act": 2},
+    "house": {"House": 2},
+    "console": {"Console": 1},
 }
 BOOK_METHODS = {
     "goods": 0, "barters": 0, "names": 0, "row": 1, "takes": 1, "gives": 1, "good_number": 1, "barter_number": 1,
     "__eq__": 1,
 }
+HOUSE_METHODS = {
+    "book": 0, "stock": 0, "goal": 0, "plan": 0, "nails": 0, "state": 0, "do": 1, "undo": 0, "redo": 0, "done": 0,
+    "undone": 0, "tried": 1, "would": 1, "paid": 0, "due": 0, "waste": 0, "left": 0, "left_cost": 1, "way": 0,
+    "next_deeds": 0, "keep": 1, "marks": 0, "marked": 1, "due_to": 1, "twin": 0, "__eq__": 1,
+}
+CONSOLE_METHODS = {"house": 0, "say": 1}
 
 
 class Interface(unittest.TestCase):
@@ -74,11 +86,14 @@ class Interface(unittest.TestCase):
                 self.assertEqual((found.__module__, found.__name__), (module.__name__, name))
                 self.assertEqual(len(inspect.signature(found).parameters), many, name)
 
-    def test_the_methods_of_a_book_are_its_own(self):
-        book = importlib.import_module("eitherbarter.books").Book
-        for name, many in BOOK_METHODS.items():
-            self.assertIn(name, vars(book))
-            self.assertEqual(len(inspect.signature(vars(book)[name]).parameters), many + 1, name)
+    def test_the_methods_of_each_class_are_its_own(self):
+        for file, name, methods in (
+            ("books", "Book", BOOK_METHODS), ("house", "House", HOUSE_METHODS), ("console", "Console", CONSOLE_METHODS),
+        ):
+            found = getattr(importlib.import_module(f"eitherbarter.{file}"), name)
+            for method, many in methods.items():
+                self.assertIn(method, vars(found))
+                self.assertEqual(len(inspect.signature(vars(found)[method]).parameters), many + 1, method)
 
 
 if __name__ == "__main__":

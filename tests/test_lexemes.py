@@ -26,7 +26,8 @@ def plain_lexemes(text):
 def plain_wrong_place(text, states, end):
     """The first wrong place by a table, or None.
 
-    The table tells for each state of a form what may come in it and the state behind that; the form ends in one.
+    The table tells for each state of a form what may come in it and the state behind that; the form ends in one,
+    or in each of several.
     """
     stop = plain_lexemes(text)
     if isinstance(stop, int):
@@ -38,7 +39,7 @@ def plain_wrong_place(text, states, end):
         state = states[state].get(lexeme) or states[state].get({"word": "WORD", "number": "NUMBER"}.get(sort))
         if state is None:
             return place
-    if stop is None and state != end:
+    if stop is None and state not in (end if isinstance(end, tuple) else (end,)):
         return len(text)
     return stop
 

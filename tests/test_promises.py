@@ -6,6 +6,7 @@ import unittest
 from eitherbarter.accounts import (
     account_deeds, account_of, balance, cancels_at, cost, judge_account, judge_no_account, no_account_row, reduced,
 )
+from eitherbarter.acts import act_word, is_good_act, state_after
 from eitherbarter.between import all_between, count_between, is_between, nearest_stock
 from eitherbarter.books import (
     Book, book_pieces, joined_books, part_book, turned_book, with_barter, without_barter,
@@ -17,10 +18,15 @@ from eitherbarter.carrying import (
 )
 from eitherbarter.chains import chain_between, judge_chain, judge_round, linking, links_of, round_of
 from eitherbarter.changes import are_free, can_put, free_pairs, judge_put, put_paper
+from eitherbarter.console import Console
 from eitherbarter.deeds import all_deeds, deed_back, done, is_deed, is_idle
-from eitherbarter.errors import BadBook, BadMade, BadTree, BarterError, NameMissing
+from eitherbarter.errors import BadAct, BadBook, BadMade, BadTree, BarterError, NameMissing
 from eitherbarter.fractions import added, is_fraction, lowest, row_sum, times
+from eitherbarter.goals import dues_after, free_account, plan_after, wasted
+from eitherbarter.house import House
 from eitherbarter.lexemes import lexemes
+from eitherbarter.lotnumbers import drawn_lot, lot_at, lot_number, lots_from, next_lot
+from eitherbarter.lots import first_stock, is_one_lot, lot_of, lots_at
 from eitherbarter.makers import (
     book_of_boxes, book_of_coins, book_of_tree, boxes_tree, bridged_books, coins_tree, numbered_form, plain_tree,
 )
@@ -55,6 +61,11 @@ def frozen(value):
     """A value with which others can be compared, objects of the package told apart by what they tell."""
     if isinstance(value, Book):
         return ("Book", value.goods(), value.barters())
+    if isinstance(value, House):
+        marks = [value.marked(name) for name in value.marks()]
+        return ("House", frozen([value.state(), value.done(), value.undone(), value.marks(), marks]))
+    if isinstance(value, Console):
+        return ("Console", frozen(value.house()))
     if isinstance(value, (BarterError, NameMissing)):
         return (type(value).__name__, frozen(vars(value)))
     if isinstance(value, (list, tuple)):
@@ -305,11 +316,80 @@ def series_calls():
     return calls
 
 
+def lot_calls():
+    """Calls of stage 9 about lots, likewise."""
+    calls = []
+    for book, weights, stock in (
+        (three_twos(), [4, 6, 5], (2, 1, 0)), (three(), [1, 2, 6], (7, 1, 0)), (Book([], []), [], ()),
+        (Book(["a", "b"], []), [2, 3], (3, 2)), (ring(3), [1, 1, 1], (0, 1, 2)),
+        (Book(["a", "b"], [("p", (-1, 1))]), [1, 1], (3000, 0)), (Book(["a", "b", "c"], []), [1, 1, 1], (90, 0, 0)),
+    ):
+        calls.extend([(is_one_lot, [book, stock, stock[::-1]]), (lot_of, [book, stock]), (first_stock, [book, stock])])
+        weight_of = sum(n * w for n, w in zip(stock, weights))
+        if weight_of <= 300:
+            calls.extend([(lot_number, [book, weights, stock]), (next_lot, [book, weights, stock])])
+        for number in (0, 1, 12, 300):
+            calls.extend([(lots_at, [book, weights, number]), (lots_from, [book, weights, number])])
+            calls.append((lambda b, w, n: lots_from(b, w, n, number=1, many=3), [book, weights, number]))
+            for k in (0, 2, 10 ** 59):
+                calls.extend([(lot_at, [book, weights, number, k]), (drawn_lot, [book, weights, number, k])])
+    return calls
+
+
+def on_house(method, acts, *arguments):
+    """What a method of a house tells, and the house then, behind some acts of which the last one is undone."""
+    house = House(money(), (0, 0, 2))
+    house.keep("here")
+    house.tried([*acts, ("nail", "split")])
+    house.undo()
+    return [getattr(house, method)(*arguments), house]
+
+
+def house_calls():
+    """Calls of stage 10, likewise."""
+    calls = []
+    script = [("split", 1), ("change", -1)]
+    for function in (plan_after, dues_after, wasted):
+        calls.extend([(function, [money(), (2, 2), script]), (function, [money(), (2,), script])])
+    for names in (["split"], ["change", "split"], [], ["cent"], [["split"]]):
+        calls.append((free_account, [money(), (0, 2, 2), (10, 0, 2), names]))
+    states = [
+        (money(), (0, 0, 2), (), (10, 2, 0), (2, 2)), (money(), (0, 2, 0), ("split",), None, None),
+        (there_and_back(), (1, 0), (), (1, 0), (0, 0)), (Book([], []), (), (), None, None),
+    ]
+    goal = ("goal", (0, 2, 1))
+    acts = [
+        ("do", "split", 1), ("nail", "change"), ("free", "split"), goal, ("goal", None), ("bring", (1, 2, 3)),
+        ("fetch", (0, 0, 1)), ("add", "swap", (-3, 0, 1)), ("drop", "change"), ("good", "penny"), ("lose", "cent"),
+        ("add", "swap", [-3, 0, 1]), ["do", "split", 1], ("bring", [1, 2, 3]),
+    ]
+    for value in [*anything(), *acts]:
+        for state in states:
+            calls.extend([(function, [state, value]) for function in (act_word, state_after, is_good_act)])
+        calls.extend([(House, [money(), value]), (lambda a, b: House(*a) == b, [[money(), (0, 0, 2)], value])])
+        for method in ("do", "keep", "marked", "due_to", "left_cost"):
+            calls.append((on_house, [method, [goal], value]))
+        for method in ("tried", "would"):
+            calls.append((on_house, [method, [goal], [("good", "penny"), value]]))
+    for method in (
+        "book", "stock", "goal", "plan", "nails", "state", "undo", "redo", "done", "undone", "paid", "due", "waste",
+        "left", "way", "next_deeds", "marks", "twin",
+    ):
+        for before in ([], [goal], [goal, ("add", "swap", (-3, 0, 1))]):
+            calls.append((on_house, [method, before]))
+    calls.extend([(on_house, ["tried", [goal], []]), (on_house, ["would", [goal], []])])
+    calls.extend([(on_house, ["left_cost", [goal], [1, 2]]), (on_house, ["marked", [goal], "here"])])
+    for line in ("show", "way", "goal (0, 2, 1)", "square", "to here", "undo", "keep a", "[", "forward change"):
+        calls.append((lambda b, text: Console(House(b, (0, 0, 2))).say(text), [money(), line]))
+    return calls
+
+
 class AllFunctions(unittest.TestCase):
     @staticmethod
     def calls():
         early = book_calls() + tree_calls() + account_calls() + deed_calls() + carry_calls()
-        return early + order_calls() + weight_calls() + change_calls() + series_calls()
+        late = change_calls() + series_calls() + lot_calls() + house_calls()
+        return early + order_calls() + weight_calls() + late
 
     def test_arguments_are_not_modified(self):
         for function, arguments in self.calls():
@@ -336,7 +416,7 @@ class AllFunctions(unittest.TestCase):
 
     def test_returned_values_are_plain(self):
         def check(value):
-            if not isinstance(value, Book):
+            if not isinstance(value, (Book, House)):
                 self.assertIn(type(value), (bool, int, str, list, tuple, type(None)))
             if isinstance(value, (list, tuple)):
                 for member in value:
@@ -389,6 +469,14 @@ class AllFunctions(unittest.TestCase):
         self.assertEqual(stock_series((4, 6, 5), 12), stock_series([4, 6, 5], 12))
         self.assertEqual(lot_series(three_twos(), (4, 6, 5), 12), lot_series(three_twos(), [4, 6, 5], 12))
         self.assertEqual(mirror(three_twos(), (4, 6, 5)), mirror(three_twos(), [4, 6, 5]))
+        self.assertEqual(lots_at(three_twos(), (4, 6, 5), 12), lots_at(three_twos(), [4, 6, 5], 12))
+        for function in (plan_after, dues_after, wasted):
+            self.assertEqual(function(money(), (2, 2), (("split", 1),)), function(money(), (2, 2), [("split", 1)]))
+        self.assertEqual(free_account(money(), (0, 2, 2), (10, 0, 2), ("split",)), (0, 2))
+        house = House(money(), (0, 0, 2))
+        self.assertEqual(house.tried((("goal", (10, 2, 0)), ("do", "split", 1))), 2)
+        self.assertEqual(house.would((("do", "split", 1),))[1], (0, 4, 0))
+        self.assertEqual(house.left_cost((3, 1)), 5)
 
     def test_a_list_is_not_taken_for_a_tuple(self):
         for goods, barters in (
@@ -415,6 +503,9 @@ class AllFunctions(unittest.TestCase):
         self.assertIs(judge_put(three(), "new", (-1, 0, 1), ["chain", ("c", "q", "b", "p", "a")]), False)
         self.assertIs(judge_mirror_paper(three_twos(), (2, 1, -2), ["here", (0, 1)]), False)
         self.assertIs(judge_mirror_paper(three_twos(), (2, 1, -2), ("here", [0, 1])), False)
+        for act in (["do", "split", 1], ("goal", [10, 2, 0]), ("add", "swap", [-3, 0, 1]), ("bring", [0, 0, 0])):
+            with self.assertRaises(BadAct):
+                House(money(), (0, 0, 2)).do(act)
         for function, value in (
             (book_of_boxes, [["a", None]]), (coins_tree, [["a", None]]), (book_of_tree, ["a", "b", None]),
         ):
@@ -444,6 +535,8 @@ class AllFunctions(unittest.TestCase):
             for function in (book_of_coins, coins_tree):
                 with self.assertRaises(BadMade):
                     function([("a", None), ("b", value)])
+            for act in (("do", "split", value), ("goal", (10, 2, value)), ("bring", (0, 0, value))):
+                self.assertIsNotNone(act_word((money(), (0, 0, 2), (), None, None), act))
             with self.assertRaises(BadBook) as caught:
                 Book(["a", "b", "c"], [("p", (-1, 1, value))])
             self.assertEqual(caught.exception.path, (1, 0, 1, 2))
@@ -466,6 +559,8 @@ class AllFunctions(unittest.TestCase):
             are_free(Book(["a", "b"], []), "a", "b"), can_put(Book(["a", "b"], []), (1, -1)),
             judge_put(three(), "new", (-1, 0, 1), ("chain", ("c", "q", "b", "p", "a"))),
             judge_mirror_paper(three_twos(), (2, 1, -2), ("here", (0, 1))),
+            is_one_lot(three_twos(), (2, 1, 0), (1, 0, 2)), House(money(), (0, 0, 2)) == House(money(), (0, 0, 2)),
+            is_good_act((money(), (0, 0, 2), (), None, None), ("do", "split", 1)),
         ):
             self.assertIs(value, True)
 
