@@ -103,7 +103,7 @@ def wrong_parts(parts, goods):
         if not is_pair(part):
             return (j,)
         good, many = part
-        if not is_word(good) or good not in goods or good in earlier:
+        if good not in goods or good in earlier:
             return (j, 0)
         if not is_count(many):
             return (j, 1)

@@ -217,6 +217,8 @@ class Words(unittest.TestCase):
         self.word(with_goal(), ("fetch", (0, 0, 3)), "few")
         self.word(with_goal(), ("fetch", (1, 0, 0)), "few")
         self.word(with_goal(), ("fetch", (0, 0, 1)), "goal")
+        self.word((money(), (0, 3, 0), (), (5, 2, 0), (0, 1)), ("fetch", (0, 3, 0)), "goal")
+        self.assertIsNone(act_word((money(), (0, 3, 0), (), (5, 2, 0), (0, 1)), ("fetch", (0, 2, 0))))
         # The stock has less of one good, and the goal of another one.
         self.word(with_goal(), ("fetch", (1, 0, 1)), "few")
         self.assertIsNone(act_word(begun(money(), (0, 0, 2)), ("fetch", (0, 0, 2))))

@@ -129,6 +129,7 @@ class PutIn(unittest.TestCase):
         """Papers that are nearly right."""
         wrong = [(word, list(told)) if isinstance(told, tuple) else (word, [told]), [word, told]]
         wrong += [("chain" if word == "tree" else "tree", told), (word,), (word, told, told), told, word]
+        wrong += [("other", told), (None, told), (word.upper(), told), (told, word)]
         if word == "chain":
             wrong += [(word, told[::-1]), (word, told[1:]), (word, told[:-1]), (word, told + told[-2:])]
             wrong += [(word, told + told[1:]), (word, told + told[::-1][1:])]
