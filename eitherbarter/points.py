@@ -1,8 +1,8 @@
 """Accounts by which a row becomes a stock, in books with weights.
 
 The rows that come of a row by fractions of barters, with no number below 0, are a body whose corners are known.
-Barters are combined anew, such that they are short as seen in this body; then few multiples of the last of them
-come into question, and for each of these the others are left.
+Barters are combined anew, such that they are short as seen in this body. Then either the body is so wide that its
+middle is near a stock, or just a few multiples of the last barter lead into it; for each of them the others are left.
 """
 
 from math import lcm

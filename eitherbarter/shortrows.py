@@ -1,8 +1,9 @@
-"""Rows combined anew, such that they are short and as upright to one another as can be.
+"""Rows combined anew, such that they are short and nearly upright to one another.
 
-How long rows are is told by squares, one for each of the places that count: each number there counts as often as
-its square tells. A table tells of rows how far each one leans on the ones ahead of it, in integers: its number k
-at the row k is the square of the volume of the rows up to this one.
+This is the method of Lenstra, Lenstra and Lovasz, in integers. How long rows are is told by squares, one for each
+of the places that count: each number there counts as often as its square tells. A table tells of rows how far each
+one leans on the ones ahead of it: its number k at the row k is the square of the volume of the rows up to this one,
+and its number k at a later row, divided by this, tells how often the upright part of the row k is in that row.
 """
 
 from eitherbarter.solving import combined
@@ -25,7 +26,10 @@ def short_rows(rows, squares):
 
 
 def lessened(row, numbers, others, table):
-    """The row less multiples of the others, so that it leans on none of them, and how far it leans on the last one."""
+    """The row less multiples of the others, such that it hardly leans on them, and how far it leans on the last one.
+
+    The numbers are those of the table at this row.
+    """
     lean = 0
     for k in reversed(range(len(others))):
         many = (2 * numbers[k] + table[k][k]) // (2 * table[k][k])
@@ -46,6 +50,7 @@ def table_of(rows, squares):
             number = product_by(squares, row, rows[k])
             before = 1
             for j in range(k):
+                # This leaves no remainder, as all numbers of the table are minors.
                 number = (table[j][j] * number - numbers[j] * other[j]) // before
                 before = table[j][j]
             numbers.append(number)
